@@ -1,0 +1,1 @@
+"""Round trips: puzzles and their solutions."""
