@@ -10,6 +10,8 @@ NOT_OF_THE_KIND = -22
 TOO_GREAT = -28
 
 MOST_SIZE = 1000
+MOST_NUMBERS = 12
+MOST_LISTS = 4096
 
 
 def right(c, p, s):
@@ -22,6 +24,20 @@ def right(c, p, s):
     return [0]
 
 
+def many(c, p):
+    """Answer how many right solutions p, a puzzle of kind c, has."""
+    refusal = refusal_of_search(c, p)
+    if refusal != NO_REFUSAL:
+        return [refusal]
+    n = p[0]
+    rows = rows_of(p)
+    found = 0
+    for s in lists_of(n, choices_of(c, n)):
+        if is_right(c, n, p[1], rows, s):
+            found = found + 1
+    return [found]
+
+
 def refusal_of_puzzle(c, p):
     rows = rows_of(p)
     if c > WISHES or rows is None:
@@ -31,6 +47,14 @@ def refusal_of_puzzle(c, p):
     if size_of(p[0], rows) > MOST_SIZE:
         return TOO_GREAT
     return NO_REFUSAL
+
+
+def refusal_of_search(c, p):
+    """Give the refusal due where every list that may be a solution is to be tried."""
+    refusal = refusal_of_puzzle(c, p)
+    if refusal == NO_REFUSAL and are_too_many(p[0], choices_of(c, p[0])):
+        return TOO_GREAT
+    return refusal
 
 
 def rows_of(p):
@@ -164,3 +188,32 @@ def goes_by_roads(lengths, k, trip):
             return False
         total = total + lengths[step]
     return total <= k
+
+
+def choices_of(c, n):
+    """Give how many numbers, from 0 on, each number of a solution may be."""
+    if c == GUARDS or c == WISHES:
+        return 2
+    return n
+
+
+def are_too_many(length, choices):
+    # A long list is told first, so that the product below stays small.
+    if length > MOST_NUMBERS:
+        return True
+    product = 1
+    for place in range(length):
+        product = product * choices
+    return product > MOST_LISTS
+
+
+def lists_of(length, choices):
+    """Give all lists of that length of numbers below choices, in order."""
+    lists = [[]]
+    for place in range(length):
+        longer = []
+        for begun in lists:
+            for number in range(choices):
+                longer.append(begun + [number])
+        lists = longer
+    return lists

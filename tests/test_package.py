@@ -54,6 +54,8 @@ class TestPackage(unittest.TestCase):
         with contextlib.redirect_stdout(told), contextlib.redirect_stderr(told):
             roundtripsdesk.puzzles.right(2, [2, 0, 2, 0, 1], [0, 1])
             roundtripsdesk.puzzles.right(9, [], [])
+            roundtripsdesk.puzzles.many(2, [2, 0, 2, 0, 1])
+            roundtripsdesk.puzzles.many(9, [])
         self.assertEqual(told.getvalue(), "")
 
 
