@@ -6,6 +6,7 @@ SHORT_TRIP = 3
 WISHES = 4
 
 NO_REFUSAL = 0
+NO_RIGHT_SOLUTION = -6
 NOT_OF_THE_KIND = -22
 TOO_GREAT = -28
 
@@ -29,13 +30,23 @@ def many(c, p):
     refusal = refusal_of_search(c, p)
     if refusal != NO_REFUSAL:
         return [refusal]
-    n = p[0]
-    rows = rows_of(p)
-    found = 0
-    for s in lists_of(n, choices_of(c, n)):
-        if is_right(c, n, p[1], rows, s):
-            found = found + 1
-    return [found]
+    return [len(right_solutions(c, p))]
+
+
+def first(c, p):
+    """Answer how many numbers the first right solution of p, a puzzle of kind c, has, then these."""
+    refusal = refusal_of_search(c, p)
+    if refusal != NO_REFUSAL:
+        return [refusal]
+    solutions = right_solutions(c, p)
+    if len(solutions) == 0:
+        return [NO_RIGHT_SOLUTION]
+    return counted(solutions[0])
+
+
+def counted(numbers):
+    """Give how many numbers there are, then these."""
+    return [len(numbers)] + numbers
 
 
 def refusal_of_puzzle(c, p):
@@ -188,6 +199,13 @@ def goes_by_roads(lengths, k, trip):
             return False
         total = total + lengths[step]
     return total <= k
+
+
+def right_solutions(c, p):
+    """Give all right solutions of p, in order."""
+    n = p[0]
+    rows = rows_of(p)
+    return [s for s in lists_of(n, choices_of(c, n)) if is_right(c, n, p[1], rows, s)]
 
 
 def choices_of(c, n):

@@ -24,6 +24,41 @@ def row_of(n, k, rows):
     return laid
 
 
+def one_way_roads(n):
+    return [[a, b] for a in range(n) for b in range(n) if a != b]
+
+
+def pairs(n):
+    return [[a, b] for a, b in one_way_roads(n) if a < b]
+
+
+def long_roads(n, length):
+    return [pair + [length] for pair in pairs(n)]
+
+
+def broken_rows():
+    """Lists that are no puzzle's row."""
+    return [[], [0], [2], [GREATEST], [2, 0, 1], [2, 0, 2, 0], [2, 0, 3, 0, 1], [2, 0, 2, 0, 1, 2, 0], [2, 0, GREATEST]]
+
+
+def broken_puzzles(c, n=3):
+    """Rows of puzzles that aren't of kind c, whatever n of 3 and above is."""
+    pair_lists = [[[0, 2], [0, 1]], [[1, 2], [0, 1]], [[1, 2], [0, 2]], [[0, 1], [0, 1]], [[0, 1], [0, 2], [0, 1]]]
+    wrong_pairs = [[[1, 0]], [[1, 1]], [[0, n]], [[n, n + 1]], [[0, 1], [1, n]], [[0, GREATEST]]]
+    wrong_lengths = [[[]], [[0]], [[0, 1, 2]], [[0, 1], [0]], [[0, 1], []], [[0, 1], [0, 2, 2]]]
+    if c == 1:
+        wrong_pairs = [[[1, 0], [0, 1]], [[1, 1]], [[0, n]], [[n, 0]], [[0, 1], [n, 1]], [[GREATEST, 0]]]
+    every = pair_lists + wrong_pairs + wrong_lengths
+    if c == 3:
+        every = [[row + [1] for row in rows] for rows in every] + [[[0, 1, 1], [0, 1, 2]], [[0, 1, 2], [0, 1, 1]]]
+    if c == 4:
+        every = [[[2, 0]], [[0, 0]], [[0, 1]], [[1, 0]], [[0, 4, 2]], [[0], [3, 2]], [[2 * n]], [[0, 2 * n + 1]]]
+    broken = [row_of(n, 0, rows) for rows in every if all(x <= GREATEST for row in rows for x in row)]
+    if c in (1, 2, 4):
+        broken += [row_of(n, k, []) for k in (1, n, GREATEST)]
+    return broken
+
+
 def told_right(c, n, k, rows, s):
     """What the document calls right, straight from its words."""
     s = tuple(s)
@@ -53,10 +88,10 @@ def told_trips(n):
     return [(0,) + others for others in permutations(range(1, n))]
 
 
-def told_many(c, n, k, rows):
-    """How many right solutions there are, by trying every list."""
+def told_solutions(c, n, k, rows):
+    """All right solutions, by trying every list in order."""
     numbers = range(2) if c in (0, 4) else range(n)
-    return sum(told_right(c, n, k, rows, s) for s in product(numbers, repeat=n))
+    return [list(s) for s in product(numbers, repeat=n) if told_right(c, n, k, rows, s)]
 
 
 def drawn_puzzle(source, c, n):

@@ -4,19 +4,8 @@ import random
 import unittest
 
 from roundtripsdesk.puzzles import many
-from tests.helper import GREATEST, GREATEST_SMALL, Kept, drawn_puzzle, row_of, told_many
-
-
-def one_way_roads(n):
-    return [[a, b] for a in range(n) for b in range(n) if a != b]
-
-
-def pairs(n):
-    return [[a, b] for a, b in one_way_roads(n) if a < b]
-
-
-def long_roads(n, length):
-    return [pair + [length] for pair in pairs(n)]
+from tests.helper import (GREATEST, GREATEST_SMALL, Kept, broken_puzzles, broken_rows, drawn_puzzle, long_roads,
+                          one_way_roads, pairs, row_of, told_solutions)
 
 
 class Counts(unittest.TestCase):
@@ -28,7 +17,7 @@ class Counts(unittest.TestCase):
 
     def counted(self, wanted, c, n, k, rows):
         """The number written here, the one told by trying every list, and the answer are one."""
-        self.assertEqual(told_many(c, n, k, rows), wanted)
+        self.assertEqual(len(told_solutions(c, n, k, rows)), wanted)
         self.answer(wanted, c, row_of(n, k, rows))
 
 
@@ -83,7 +72,7 @@ class TestKinds(Counts):
             for n in range(8 if c in (0, 4) else 6):
                 for again in range(12 if n < 5 else 3):
                     n, k, rows = drawn_puzzle(source, c, n)
-                    self.answer(told_many(c, n, k, rows), c, row_of(n, k, rows))
+                    self.answer(len(told_solutions(c, n, k, rows)), c, row_of(n, k, rows))
 
 
 class TestCorners(Counts):
@@ -177,40 +166,21 @@ class TestRefusals(Counts):
 
     def test_p_is_no_row(self):
         for c in range(5):
-            for p in ([], [0], [2], [GREATEST], [2, 0, 1], [2, 0, 2, 0], [2, 0, 3, 0, 1], [2, 0, GREATEST]):
+            for p in broken_rows():
                 self.answer(-22, c, p)
 
     def test_not_of_the_kind(self):
-        for c in (0, 2):
-            for rows in ([[0, 2], [0, 1]], [[1, 2], [0, 1]], [[0, 1], [0, 1]], [[1, 0]], [[1, 1]], [[0, 3]],
-                         [[0]], [[]], [[0, 1, 2]]):
-                self.answer(-22, c, row_of(3, 0, rows))
-        for rows in ([[0, 2], [0, 1]], [[1, 0], [0, 1]], [[0, 1], [0, 1]], [[1, 1]], [[0, 3]], [[3, 0]],
-                     [[0]], [[]], [[0, 1, 2]]):
-            self.answer(-22, 1, row_of(3, 0, rows))
-        for rows in ([[0, 2, 1], [0, 1, 1]], [[1, 2, 1], [0, 1, 1]], [[0, 1, 1], [0, 1, 2]], [[1, 0, 1]],
-                     [[1, 1, 1]], [[0, 3, 1]], [[0, 1]], [[]], [[0, 1, 2, 3]]):
-            self.answer(-22, 3, row_of(3, 0, rows))
-        for rows in ([[2, 0]], [[0, 0]], [[0, 1]], [[3, 2]], [[6]], [[0, 7]], [[0], [GREATEST]]):
-            self.answer(-22, 4, row_of(3, 0, rows))
-
-    def test_k_must_be_0(self):
-        for c in (1, 2, 4):
-            for k in (1, GREATEST):
-                self.answer(-22, c, row_of(0, k, []))
-                self.answer(-22, c, row_of(3, k, []))
+        for c in range(5):
+            for p in broken_puzzles(c):
+                self.answer(-22, c, p)
 
     def test_22_comes_before_28(self):
         for n in (13, 1001, GREATEST):
             self.answer(-22, 5, row_of(n, 0, []))
             for c in range(5):
                 self.answer(-22, c, [n, 0, 1])
-            for c in (1, 2, 4):
-                self.answer(-22, c, row_of(n, 1, []))
-            for c in (0, 1, 2):
-                self.answer(-22, c, row_of(n, 0, [[0, 1], [0, 1]]))
-            self.answer(-22, 3, row_of(n, 0, [[0, 1, 1], [0, 1, 1]]))
-            self.answer(-22, 4, row_of(n, 0, [[0, 1]]))
+                for p in broken_puzzles(c, n):
+                    self.answer(-22, c, p)
 
 
 class TestHandedIn(Counts):

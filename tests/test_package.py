@@ -56,6 +56,8 @@ class TestPackage(unittest.TestCase):
             roundtripsdesk.puzzles.right(9, [], [])
             roundtripsdesk.puzzles.many(2, [2, 0, 2, 0, 1])
             roundtripsdesk.puzzles.many(9, [])
+            roundtripsdesk.puzzles.first(2, [2, 0, 2, 0, 1])
+            roundtripsdesk.puzzles.first(9, [])
         self.assertEqual(told.getvalue(), "")
 
 
