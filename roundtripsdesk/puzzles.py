@@ -1,5 +1,7 @@
 """The calls on puzzles; each answers one list of whole numbers."""
 
+from roundtripsdesk.turns import ONE_WAY_TO_WISHES, turned
+
 GUARDS = 0
 ONE_WAY_TRIP = 1
 SHORT_TRIP = 3
@@ -13,6 +15,10 @@ TOO_GREAT = -28
 MOST_SIZE = 1000
 MOST_NUMBERS = 12
 MOST_LISTS = 4096
+MOST_WORK = 40000
+
+# The kind that each turn goes from, turn 0 first.
+KINDS_TURNED = (0, 1, 2, 2, 1)
 
 
 def right(c, p, s):
@@ -44,18 +50,23 @@ def first(c, p):
     return counted(solutions[0])
 
 
+def turn(t, p):
+    """Answer how many numbers the row has of the puzzle that p is turned into by turn t, then these."""
+    refusal = refusal_of_turn(t, p)
+    if refusal != NO_REFUSAL:
+        return [refusal]
+    return counted(turned(t, p[0], p[1], rows_of(p)))
+
+
 def counted(numbers):
     """Give how many numbers there are, then these."""
     return [len(numbers)] + numbers
 
 
 def refusal_of_puzzle(c, p):
-    rows = rows_of(p)
-    if c > WISHES or rows is None:
+    if c > WISHES or not is_puzzle_of_kind(c, p):
         return NOT_OF_THE_KIND
-    if not is_of_kind(c, p[0], p[1], rows):
-        return NOT_OF_THE_KIND
-    if size_of(p[0], rows) > MOST_SIZE:
+    if size_of(p[0], rows_of(p)) > MOST_SIZE:
         return TOO_GREAT
     return NO_REFUSAL
 
@@ -66,6 +77,19 @@ def refusal_of_search(c, p):
     if refusal == NO_REFUSAL and are_too_many(p[0], choices_of(c, p[0])):
         return TOO_GREAT
     return refusal
+
+
+def refusal_of_turn(t, p):
+    if t >= len(KINDS_TURNED) or not is_puzzle_of_kind(KINDS_TURNED[t], p):
+        return NOT_OF_THE_KIND
+    if work_of(t, p[0], rows_of(p)) > MOST_WORK:
+        return TOO_GREAT
+    return NO_REFUSAL
+
+
+def is_puzzle_of_kind(c, p):
+    rows = rows_of(p)
+    return rows is not None and is_of_kind(c, p[0], p[1], rows)
 
 
 def rows_of(p):
@@ -85,6 +109,13 @@ def rows_of(p):
 
 def size_of(n, rows):
     return n + len(rows) + sum([len(row) for row in rows])
+
+
+def work_of(t, n, rows):
+    size = size_of(n, rows)
+    if t == ONE_WAY_TO_WISHES:
+        return size * size + n * n * n
+    return size * size
 
 
 def is_of_kind(c, n, k, rows):
