@@ -125,7 +125,8 @@ class Turns(unittest.TestCase):
     def answer(self, wanted, t, p):
         given = turn(t, p)
         self.assertIs(type(given), list)
-        self.assertEqual(given, wanted, (t, p))
+        # not by assertEqual: it takes minutes to show how two long lists differ
+        self.assertTrue(given == wanted, (t, p, given[:100], wanted[:100]))
         self.assertEqual({type(number) for number in given}, {int})
 
     def turned(self, wanted, t, n, k, rows):
@@ -361,20 +362,16 @@ class TestRefusals(Turns):
         self.refused(-28, 0, row_of(201, GREATEST, []))
 
     def test_edge_of_turn_4(self):
-        every = one_way_roads(40)
-        # n times n times n, and the size times the size besides: 37,026, 39,906, 40,293; 39,657, 40,164; 40,460
-        for n, most in ((33, 10), (32, 17)):
-            rows = [road for road in every if max(road) < n][:most + 1]
-            for few in (rows[:0], rows[:most]):
-                wanted = row_of(*told_turned(4, n, 0, few))
-                self.answer([len(wanted)] + wanted, 4, row_of(n, 0, few))
-            self.refused(-28, 4, row_of(n, 0, rows))
+        # n times n times n, and the size times the size besides: 39,906, 39,996, 39,657, 38,967, 37,026
+        for n, many_roads in ((33, 10), (30, 28), (32, 17), (11, 61), (33, 0)):
+            rows = one_way_roads(n)[:many_roads]
+            wanted = row_of(*told_turned(4, n, 0, rows))
+            self.answer([len(wanted)] + wanted, 4, row_of(n, 0, rows))
+        # 40,293, 40,014, 40,164, 40,140
+        for n, many_roads in ((33, 11), (29, 32), (32, 18), (11, 62)):
+            self.refused(-28, 4, row_of(n, 0, one_way_roads(n)[:many_roads]))
         for n in (34, 35, 60, 200, 201):
             self.refused(-28, 4, row_of(n, 0, []))
-        # 11: 1,331 and 194 times 194 besides, then 197 times 197
-        rows = [road for road in every if max(road) < 11]
-        self.assertEqual(turn(4, row_of(11, 0, rows[:61]))[1], 121)
-        self.refused(-28, 4, row_of(11, 0, rows[:62]))
 
     def test_great_numbers(self):
         for t in range(5):
