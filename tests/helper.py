@@ -47,7 +47,8 @@ def broken_puzzles(c, n=3):
     wrong_pairs = [[[1, 0]], [[1, 1]], [[0, n]], [[n, n + 1]], [[0, 1], [1, n]], [[0, GREATEST]]]
     wrong_lengths = [[[]], [[0]], [[0, 1, 2]], [[0, 1], [0]], [[0, 1], []], [[0, 1], [0, 2, 2]]]
     if c == 1:
-        wrong_pairs = [[[1, 0], [0, 1]], [[1, 1]], [[0, n]], [[n, 0]], [[0, 1], [n, 1]], [[GREATEST, 0]], [[0, GREATEST]]]
+        wrong_pairs = [[[1, 0], [0, 1]], [[1, 1]], [[0, n]], [[n, 0]], [[0, 1], [n, 1]], [[GREATEST, 0]],
+                       [[0, GREATEST]]]
     every = pair_lists + wrong_pairs + wrong_lengths
     if c == 3:
         every = [[row + [1] for row in rows] for rows in every] + [[[0, 1, 1], [0, 1, 2]], [[0, 1, 2], [0, 1, 1]]]
