@@ -1,5 +1,6 @@
 """The calls on puzzles; each answers one list of whole numbers."""
 
+from roundtripsdesk.solutions import gone_there
 from roundtripsdesk.turns import ONE_WAY_TO_WISHES, turned
 
 GUARDS = 0
@@ -11,6 +12,7 @@ NO_REFUSAL = 0
 NO_RIGHT_SOLUTION = -6
 NOT_OF_THE_KIND = -22
 TOO_GREAT = -28
+NOT_RIGHT = -71
 
 MOST_SIZE = 1000
 MOST_NUMBERS = 12
@@ -56,6 +58,17 @@ def turn(t, p):
     if refusal != NO_REFUSAL:
         return [refusal]
     return counted(turned(t, p[0], p[1], rows_of(p)))
+
+
+def there(t, p, s):
+    """Answer how many numbers the solution has to which s, a right one of p, goes by turn t, then these."""
+    refusal = refusal_of_turn(t, p)
+    if refusal != NO_REFUSAL:
+        return [refusal]
+    rows = rows_of(p)
+    if not is_right(KINDS_TURNED[t], p[0], p[1], rows, s):
+        return [NOT_RIGHT]
+    return counted(gone_there(t, p[0], p[1], rows, s))
 
 
 def counted(numbers):

@@ -32,15 +32,35 @@ def guards_to_one_way(n, k, pairs):
     if k > n:
         # So many can't be chosen, and no trip leads through a point without roads.
         return row_of(1, 0, [])
-    others = others_of(n, pairs)
-    paired = [v for v in range(n) if len(others[v]) > 0]
-    gates = min(k, len(paired))
-    entrances = entrances_of(gates, others)
+    points = GuardPoints(n, k, pairs)
     roads = []
-    for v in paired:
-        roads.extend(gate_roads(gates, v, others[v], entrances))
-        roads.extend(pair_roads(v, others[v], entrances))
-    return row_of(gates + 4 * len(pairs), 0, sorted(roads))
+    for v in points.paired:
+        roads.extend(gate_roads(points, v))
+        roads.extend(pair_roads(points, v))
+    return row_of(points.gates + 4 * len(pairs), 0, sorted(roads))
+
+
+class GuardPoints:
+    """The points that guards are turned into: the gates, then those of each one's pairs."""
+
+    def __init__(self, n, k, pairs):
+        self.others = others_of(n, pairs)
+        self.paired = [v for v in range(n) if len(self.others[v]) > 0]
+        self.gates = min(k, len(self.paired))
+        self.entrances = entrances_of(self.gates, self.others)
+
+    def way_in(self, v, w):
+        """Give where one comes in at v's pair with w."""
+        return self.entrances[(v, w)]
+
+    def way_out(self, v, w):
+        return self.entrances[(v, w)] + 1
+
+    def first_way_in(self, v):
+        return self.way_in(v, self.others[v][0])
+
+    def last_way_out(self, v):
+        return self.way_out(v, self.others[v][-1])
 
 
 def others_of(n, pairs):
@@ -61,26 +81,26 @@ def entrances_of(gates, others):
     return entrances
 
 
-def gate_roads(gates, v, others, entrances):
+def gate_roads(points, v):
     """Give the roads from each gate to v's first pair, and from v's last pair to each gate."""
     roads = []
-    for gate in range(gates):
-        roads.append([gate, entrances[(v, others[0])]])
-        roads.append([entrances[(v, others[-1])] + 1, gate])
+    for gate in range(points.gates):
+        roads.append([gate, points.first_way_in(v)])
+        roads.append([points.last_way_out(v), gate])
     return roads
 
 
-def pair_roads(v, others, entrances):
+def pair_roads(points, v):
     """Give the roads from the points of v's pairs, but those to the gates."""
+    others = points.others[v]
     roads = []
     for i in range(len(others)):
-        own = entrances[(v, others[i])]
-        other = entrances[(others[i], v)]
-        roads.append([own, own + 1])
-        roads.append([own, other])
-        roads.append([own + 1, other + 1])
+        w = others[i]
+        roads.append([points.way_in(v, w), points.way_out(v, w)])
+        roads.append([points.way_in(v, w), points.way_in(w, v)])
+        roads.append([points.way_out(v, w), points.way_out(w, v)])
         if i + 1 < len(others):
-            roads.append([own + 1, entrances[(v, others[i + 1])]])
+            roads.append([points.way_out(v, w), points.way_in(v, others[i + 1])])
     return roads
 
 

@@ -1,9 +1,13 @@
-"""What the tests share: rows laid out, puzzles drawn up, and right told a second time, in another way."""
+"""What the tests share: rows laid out, puzzles drawn up, those that are refused, and right told a second time."""
 
-from itertools import permutations, product
+from itertools import product
 
 GREATEST = 18446744073709551615
 GREATEST_SMALL = 4294967295
+
+# The kinds that each turn goes from and comes to.
+KIND_FROM = (0, 1, 2, 2, 1)
+KIND_TO = (1, 2, 3, 1, 4)
 
 
 class Kept(list):
@@ -24,12 +28,29 @@ def row_of(n, k, rows):
     return laid
 
 
+def puzzle_of(p):
+    """The n, k and rows that a puzzle's row is laid out of."""
+    rows, rest = [], p[2:]
+    while rest:
+        rows.append(rest[1:rest[0] + 1])
+        rest = rest[rest[0] + 1:]
+    return p[0], p[1], rows
+
+
 def one_way_roads(n):
     return [[a, b] for a in range(n) for b in range(n) if a != b]
 
 
 def pairs(n):
     return [[a, b] for a, b in one_way_roads(n) if a < b]
+
+
+def one_way_ring(n):
+    return sorted([v, (v + 1) % n] for v in range(n))
+
+
+def ring(n):
+    return sorted(sorted(road) for road in one_way_ring(n))
 
 
 def long_roads(n, length):
@@ -60,6 +81,37 @@ def broken_puzzles(c, n=3):
     return broken
 
 
+def edges_of_work(t):
+    """The n and rows of puzzles whose work by turn t is just not too much, and of others where it just is."""
+    if t == 4:
+        # size times size, and n times n times n: 39,906, 39,996, 39,657, 38,967, 37,026; 40,293, 40,014, 40,164, 40,140
+        enough, much = ((33, 10), (30, 28), (32, 17), (11, 61), (33, 0)), ((33, 11), (29, 32), (32, 18), (11, 62))
+        enough, much = ([(n, one_way_roads(n)[:m]) for n, m in both] for both in (enough, much))
+        return enough, much + [(34, [])]
+    enough = [(200, []), (197, [[0, 1]]), (194, [[0, 1], [5, 193]]), (50, pairs(11)[:50])]
+    return enough, [(n + 1, rows) for n, rows in enough]
+
+
+def refused_turns():
+    """Each refusal, t and p of puzzles that can't be turned by t; -22 also where the work is too much besides."""
+    refused = [(-22, t, p) for t in (5, 6, GREATEST_SMALL)
+               for p in ([], [0, 0], row_of(2, 0, [[0, 1]]), [201, 0], [GREATEST, 0])]
+    for t in range(5):
+        broken = broken_rows() + [[GREATEST] * 400, row_of(GREATEST, 0, [[GREATEST - 1, GREATEST]])]
+        broken += [row_of(3, 0, rows) for rows in ([[0, 1, 1]], [[0]])]
+        for n in (3, 201, 1001, GREATEST):
+            broken += [[n, 0, 1]] + broken_puzzles(KIND_FROM[t], n)
+        # a puzzle of another kind
+        broken += [row_of(2, 0, [[0, 1], [1, 0]])] if t in (0, 2, 3) else []
+        broken += [row_of(2, 1, [[0, 1]]), row_of(2, 2, [[0, 1, 1]])] if t > 0 else []
+        much = [row_of(n, 0, rows) for n, rows in edges_of_work(t)[1]]
+        much += [row_of(n, 0, rows) for n in (201, 1001, GREATEST_SMALL, GREATEST) for rows in ([], [[0, 1]])]
+        much += [row_of(GREATEST, 0, [[GREATEST - 2, GREATEST - 1]])]
+        refused += [(-22, t, p) for p in broken] + [(-28, t, p) for p in much]
+    # k isn't of the size, but doesn't make it smaller either
+    return refused + [(-28, 0, row_of(n, GREATEST, [])) for n in (201, GREATEST - 1, GREATEST)]
+
+
 def told_right(c, n, k, rows, s):
     """What the document calls right, straight from its words."""
     s = tuple(s)
@@ -72,7 +124,7 @@ def told_right(c, n, k, rows, s):
     if c == 4:
         met = {2 * v if s[v] == 1 else 2 * v + 1 for v in range(n)}
         return all(met & set(wish) for wish in rows)
-    if s not in told_trips(n):
+    if len(s) != n or set(s) != set(range(n)) or (n > 0 and s[0] != 0):
         return False
     steps = list(zip(s, s[1:] + s[:1]))
     if c == 1:
@@ -83,16 +135,58 @@ def told_right(c, n, k, rows, s):
     return all(used) and sum(lengths[0] for lengths in used) <= k
 
 
-def told_trips(n):
-    if n == 0:
-        return [()]
-    return [(0,) + others for others in permutations(range(1, n))]
-
-
 def told_solutions(c, n, k, rows):
     """All right solutions, by trying every list in order."""
     numbers = range(2) if c in (0, 4) else range(n)
     return [list(s) for s in product(numbers, repeat=n) if told_right(c, n, k, rows, s)]
+
+
+def searched(c, n, k, rows):
+    """All right solutions of kinds 1 to 4, by a search that leaves off where no more can come of it."""
+    if c == 4:
+        return searched_wishes(n, rows)
+    if n == 0:
+        return [[]]
+    lengths = {}
+    for row in rows:
+        length = row[2] if c == 3 else 0
+        lengths[(row[0], row[1])] = length
+        if c != 1:
+            lengths[(row[1], row[0])] = length
+    found, begun = [], [([0], 0)]
+    while begun:
+        trip, gone = begun.pop()
+        back = (trip[-1], 0)
+        if len(trip) == n and back in lengths and gone + lengths[back] <= k:
+            found.append(trip)
+        for v in range(n):
+            step = (trip[-1], v)
+            if v not in trip and step in lengths and gone + lengths[step] <= k:
+                begun.append((trip + [v], gone + lengths[step]))
+    return found
+
+
+def searched_wishes(n, wishes):
+    begun = [[]] if [] not in wishes else []
+    for flag in range(n):
+        due = [wish for wish in wishes if wish and wish[-1] // 2 == flag]
+        longer = [s + [number] for s in begun for number in (0, 1)]
+        begun = [s for s in longer if all(any(s[x // 2] == 1 - x % 2 for x in wish) for wish in due)]
+    return begun
+
+
+def told_points(n, k, rows):
+    """The points that turn 0 makes, each by its name, in order: ("gate", i), ("in", v, pair), ("out", v, pair)."""
+    own = {v: [tuple(pair) for pair in rows if v in pair] for v in range(n)}
+    gates = [("gate", i) for i in range(min(k, sum(map(bool, own.values()))))]
+    return gates + [(way, v, pair) for v in own for pair in own[v] for way in ("in", "out")]
+
+
+def all_puzzles(c, n):
+    """The n, k and rows of all puzzles of kind c (0, 1 or 2) with that n; of guards k goes up to one above n."""
+    places = one_way_roads(n) if c == 1 else pairs(n)
+    parts = [[row for i, row in enumerate(places) if share >> i & 1] for share in range(2 ** len(places))]
+    return [(n, k, rows) for rows in parts for k in range(n + 2 if c == 0 else 1)]
 
 
 def drawn_puzzle(source, c, n):

@@ -26,7 +26,7 @@ def sources():
 class TestPackage(unittest.TestCase):
     def test_files(self):
         names = {path.name for path in FOLDER.iterdir()} - {"__pycache__"}
-        self.assertEqual(names, {"__init__.py", "puzzles.py", "turns.py"})
+        self.assertEqual(names, {"__init__.py", "puzzles.py", "solutions.py", "turns.py"})
 
     def test_form(self):
         for path, text in sources().items():
@@ -60,6 +60,8 @@ class TestPackage(unittest.TestCase):
             roundtripsdesk.puzzles.first(9, [])
             roundtripsdesk.puzzles.turn(2, [2, 0, 2, 0, 1])
             roundtripsdesk.puzzles.turn(9, [])
+            roundtripsdesk.puzzles.there(2, [2, 0, 2, 0, 1], [0, 1])
+            roundtripsdesk.puzzles.there(9, [], [])
         self.assertEqual(told.getvalue(), "")
 
 

@@ -5,11 +5,9 @@ import unittest
 from itertools import combinations
 
 from roundtripsdesk.puzzles import first, many, right, turn
-from tests.helper import (GREATEST, GREATEST_SMALL, Kept, broken_puzzles, broken_rows, drawn_puzzle, long_roads,
-                          one_way_roads, pairs, row_of, told_solutions)
-
-KIND_FROM = (0, 1, 2, 2, 1)
-KIND_TO = (1, 2, 3, 1, 4)
+from tests.helper import (GREATEST, KIND_FROM, KIND_TO, Kept, all_puzzles, drawn_puzzle, edges_of_work, long_roads,
+                          one_way_roads, pairs, puzzle_of, refused_turns, row_of, searched, told_points,
+                          told_solutions)
 
 
 def told_turned(t, n, k, rows):
@@ -30,13 +28,11 @@ def told_turned(t, n, k, rows):
 def told_guards(n, k, rows):
     if k > n:
         return 1, 0, []
-    own = {v: [pair for pair in rows if v in pair] for v in range(n)}
-    paired = [v for v in range(n) if own[v]]
-    gates = [("gate", i) for i in range(min(k, len(paired)))]
-    points = gates + [(way, v, tuple(pair)) for v in paired for pair in own[v] for way in ("in", "out")]
+    points = told_points(n, k, rows)
+    gates = [point for point in points if point[0] == "gate"]
     roads = []
-    for v in paired:
-        stops = [tuple(pair) for pair in own[v]]
+    for v in sorted({v for pair in rows for v in pair}):
+        stops = [tuple(pair) for pair in rows if v in pair]
         roads += [(gate, ("in", v, stops[0])) for gate in gates]
         roads += [(("out", v, stops[-1]), gate) for gate in gates]
         roads += [(("in", v, stop), ("out", v, stop)) for stop in stops]
@@ -65,15 +61,6 @@ def told_wishes(n, rows):
     return wishes + ([[]] if n == 1 else [])
 
 
-def puzzle_of(p):
-    """The n, k and rows that a puzzle's row is laid out of."""
-    rows, rest = [], p[2:]
-    while rest:
-        rows.append(rest[1:rest[0] + 1])
-        rest = rest[rest[0] + 1:]
-    return p[0], p[1], rows
-
-
 def is_of_kind(c, n, k, rows):
     """What the document asks of a puzzle of kind c, straight from its words."""
     if c == 4:
@@ -85,40 +72,6 @@ def is_of_kind(c, n, k, rows):
     if any(len(row) != (3 if c == 3 else 2) or max(row[:2]) >= n or row[0] == row[1] for row in rows):
         return False
     return (k == 0 or c in (0, 3)) and (c == 1 or all(a < b for a, b in ends))
-
-
-def searched(c, n, k, rows):
-    """How many right solutions there are, by a search that leaves off where no more can come of it."""
-    if c == 4:
-        return searched_wishes(n, rows)
-    lengths = {}
-    for row in rows:
-        length = row[2] if c == 3 else 0
-        lengths[(row[0], row[1])] = length
-        if c != 1:
-            lengths[(row[1], row[0])] = length
-    if n == 0:
-        return 1
-    found, begun = 0, [([0], 0)]
-    while begun:
-        trip, gone = begun.pop()
-        if len(trip) == n:
-            home = (trip[-1], 0)
-            found += home in lengths and gone + lengths[home] <= k
-        for v in range(n):
-            step = (trip[-1], v)
-            if v not in trip and step in lengths and gone + lengths[step] <= k:
-                begun.append((trip + [v], gone + lengths[step]))
-    return found
-
-
-def searched_wishes(n, wishes):
-    begun = [[]] if [] not in wishes else []
-    for flag in range(n):
-        due = [wish for wish in wishes if wish and wish[-1] // 2 == flag]
-        longer = [s + [number] for s in begun for number in (0, 1)]
-        begun = [s for s in longer if all(any(s[x // 2] == 1 - x % 2 for x in wish) for wish in due)]
-    return len(begun)
 
 
 class Turns(unittest.TestCase):
@@ -145,7 +98,7 @@ class Turns(unittest.TestCase):
         c, later = KIND_TO[t], puzzle_of(turned)
         self.assertTrue(is_of_kind(c, *later), (t, p))
         self.assertIn(right(c, turned, []), ([0], [1], [-28]))
-        here, then = len(told_solutions(KIND_FROM[t], n, k, rows)), searched(c, *later)
+        here, then = len(told_solutions(KIND_FROM[t], n, k, rows)), len(searched(c, *later))
         self.assertEqual(here > 0, then > 0, (t, p))
         if t == 1 and n > 0:
             self.assertEqual(then, 2 * here)
@@ -288,16 +241,14 @@ class TestTurn4(Turns):
 class TestWhatHolds(Turns):
     def test_small_guards(self):
         for n in range(4):
-            for share in range(2 ** len(pairs(n))):
-                rows = [pair for i, pair in enumerate(pairs(n)) if share >> i & 1]
-                for k in range(n + 2):
-                    self.holds(0, n, k, rows)
+            for puzzle in all_puzzles(0, n):
+                self.holds(0, *puzzle)
 
     def test_all_small_trips(self):
         for n in range(4):
-            for t, roads in ((1, one_way_roads(n)), (2, pairs(n)), (3, pairs(n)), (4, one_way_roads(n))):
-                for share in range(2 ** len(roads)):
-                    self.holds(t, n, 0, [road for i, road in enumerate(roads) if share >> i & 1])
+            for t in range(1, 5):
+                for puzzle in all_puzzles(KIND_FROM[t], n):
+                    self.holds(t, *puzzle)
 
     def test_drawn_puzzles(self):
         source = random.Random(71)
@@ -323,74 +274,26 @@ class TestWhatHolds(Turns):
 
 
 class TestRefusals(Turns):
-    def test_t_is_no_turn(self):
-        for t in (5, 6, GREATEST_SMALL):
-            for p in ([], [0, 0], row_of(2, 0, [[0, 1]]), [GREATEST, 0]):
-                self.refused(-22, t, p)
-
-    def test_p_is_no_row(self):
-        for t in range(5):
-            for p in broken_rows():
-                self.refused(-22, t, p)
-
-    def test_not_of_the_kind(self):
-        for t in range(5):
-            for p in broken_puzzles(KIND_FROM[t]):
-                self.refused(-22, t, p)
+    def test_refused(self):
+        for number, t, p in refused_turns():
+            self.refused(number, t, p)
 
     def test_of_another_kind(self):
         self.refused(-22, 0, row_of(2, 0, [[0, 1], [1, 0]]))
         self.answer([20, 6, 0, 2, 0, 1, 2, 0, 5, 2, 1, 2, 2, 2, 3, 2, 3, 4, 2, 4, 5], 1, row_of(2, 0, [[0, 1], [1, 0]]))
-        for t in (2, 3):
-            self.refused(-22, t, row_of(2, 0, [[0, 1], [1, 0]]))
-            self.refused(-22, t, row_of(2, 2, [[0, 1, 1]]))
-        for t in range(1, 5):
-            self.refused(-22, t, row_of(2, 1, [[0, 1]]))
-        for t in range(5):
-            self.refused(-22, t, row_of(3, 0, [[0, 1, 1]]))
-            self.refused(-22, t, row_of(3, 0, [[0]]))
 
-    def test_edge_of_the_size(self):
-        for t in range(4):
-            for n, rows in ((200, []), (197, [[0, 1]]), (194, [[0, 1], [5, 193]]), (50, pairs(11)[:50])):
+    def test_edges_of_the_work(self):
+        for t in range(5):
+            for n, rows in edges_of_work(t)[0]:
                 wanted = row_of(*told_turned(t, n, 0, rows))
                 self.answer([len(wanted)] + wanted, t, row_of(n, 0, rows))
-                self.refused(-28, t, row_of(n + 1, 0, rows))
-        # k isn't of the size
+            for n, rows in edges_of_work(t)[1]:
+                self.refused(-28, t, row_of(n, 0, rows))
+
+    def test_k_is_not_of_the_size(self):
         self.answer([2, 1, 0], 0, row_of(200, GREATEST, []))
         self.answer([2, 0, 0], 0, row_of(200, 200, []))
         self.refused(-28, 0, row_of(201, GREATEST, []))
-
-    def test_edge_of_turn_4(self):
-        # n times n times n, and the size times the size besides: 39,906, 39,996, 39,657, 38,967, 37,026
-        for n, many_roads in ((33, 10), (30, 28), (32, 17), (11, 61), (33, 0)):
-            rows = one_way_roads(n)[:many_roads]
-            wanted = row_of(*told_turned(4, n, 0, rows))
-            self.answer([len(wanted)] + wanted, 4, row_of(n, 0, rows))
-        # 40,293, 40,014, 40,164, 40,140
-        for n, many_roads in ((33, 11), (29, 32), (32, 18), (11, 62)):
-            self.refused(-28, 4, row_of(n, 0, one_way_roads(n)[:many_roads]))
-        for n in (34, 35, 60, 200, 201):
-            self.refused(-28, 4, row_of(n, 0, []))
-
-    def test_great_numbers(self):
-        for t in range(5):
-            for n in (201, 1001, GREATEST_SMALL, GREATEST):
-                self.refused(-28, t, row_of(n, 0, []))
-                self.refused(-28, t, row_of(n, 0, [[0, 1]]))
-            self.refused(-28, t, row_of(GREATEST, 0, [[GREATEST - 2, GREATEST - 1]]))
-            self.refused(-22, t, row_of(GREATEST, 0, [[GREATEST - 1, GREATEST]]))
-            self.refused(-22, t, [GREATEST] * 400)
-        self.refused(-28, 0, row_of(GREATEST, GREATEST, []))
-        self.refused(-28, 0, row_of(GREATEST - 1, GREATEST, []))
-
-    def test_22_comes_before_28(self):
-        for n in (201, 1001, GREATEST):
-            self.refused(-22, 5, row_of(n, 0, []))
-            for t in range(5):
-                self.refused(-22, t, [n, 0, 1])
-                for p in broken_puzzles(KIND_FROM[t], n):
-                    self.refused(-22, t, p)
 
 
 class TestHandedIn(Turns):
