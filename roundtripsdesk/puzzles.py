@@ -1,6 +1,6 @@
 """The calls on puzzles; each answers one list of whole numbers."""
 
-from roundtripsdesk.solutions import gone_there
+from roundtripsdesk.solutions import come_home, gone_there
 from roundtripsdesk.turns import ONE_WAY_TO_WISHES, turned
 
 GUARDS = 0
@@ -19,8 +19,9 @@ MOST_NUMBERS = 12
 MOST_LISTS = 4096
 MOST_WORK = 40000
 
-# The kind that each turn goes from, turn 0 first.
+# The kind that each turn goes from, and the one that it comes to, turn 0 first.
 KINDS_TURNED = (0, 1, 2, 2, 1)
+KINDS_COME_TO = (1, 2, 3, 1, 4)
 
 
 def right(c, p, s):
@@ -69,6 +70,18 @@ def there(t, p, s):
     if not is_right(KINDS_TURNED[t], p[0], p[1], rows, s):
         return [NOT_RIGHT]
     return counted(gone_there(t, p[0], p[1], rows, s))
+
+
+def home(t, p, s):
+    """Answer how many numbers the solution of p has as which s, a right one of the turned p, comes home, then these."""
+    refusal = refusal_of_turn(t, p)
+    if refusal != NO_REFUSAL:
+        return [refusal]
+    rows = rows_of(p)
+    later = turned(t, p[0], p[1], rows)
+    if not is_right(KINDS_COME_TO[t], later[0], later[1], rows_of(later), s):
+        return [NOT_RIGHT]
+    return counted(come_home(t, p[0], p[1], rows, s))
 
 
 def counted(numbers):

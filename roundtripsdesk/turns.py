@@ -40,9 +40,8 @@ def guards_to_one_way(n, k, pairs):
     return row_of(points.gates + 4 * len(pairs), 0, sorted(roads))
 
 
+# The roads of turn 0, and the solutions that go there and come home by it, must number the points alike.
 class GuardPoints:
-    """The points that guards are turned into: the gates, then those of each one's pairs."""
-
     def __init__(self, n, k, pairs):
         self.others = others_of(n, pairs)
         self.paired = [v for v in range(n) if len(self.others[v]) > 0]

@@ -1,6 +1,6 @@
 """What the tests share: rows laid out, puzzles drawn up, those that are refused, and right told a second time."""
 
-from itertools import product
+from itertools import islice, product
 
 GREATEST = 18446744073709551615
 GREATEST_SMALL = 4294967295
@@ -30,11 +30,8 @@ def row_of(n, k, rows):
 
 def puzzle_of(p):
     """The n, k and rows that a puzzle's row is laid out of."""
-    rows, rest = [], p[2:]
-    while rest:
-        rows.append(rest[1:rest[0] + 1])
-        rest = rest[rest[0] + 1:]
-    return p[0], p[1], rows
+    numbers = iter(p[2:])
+    return p[0], p[1], [list(islice(numbers, length)) for length in numbers]
 
 
 def one_way_roads(n):
@@ -147,22 +144,20 @@ def searched(c, n, k, rows):
         return searched_wishes(n, rows)
     if n == 0:
         return [[]]
-    lengths = {}
+    steps = [{} for v in range(n)]
     for row in rows:
-        length = row[2] if c == 3 else 0
-        lengths[(row[0], row[1])] = length
-        if c != 1:
-            lengths[(row[1], row[0])] = length
+        for a, b in (row[:2],) if c == 1 else (row[:2], row[1::-1]):
+            steps[a][b] = row[2] if c == 3 else 0
     found, begun = [], [([0], 0)]
     while begun:
         trip, gone = begun.pop()
-        back = (trip[-1], 0)
-        if len(trip) == n and back in lengths and gone + lengths[back] <= k:
-            found.append(trip)
-        for v in range(n):
-            step = (trip[-1], v)
-            if v not in trip and step in lengths and gone + lengths[step] <= k:
-                begun.append((trip + [v], gone + lengths[step]))
+        for v, length in steps[trip[-1]].items():
+            if gone + length > k:
+                continue
+            if v not in trip:
+                begun.append((trip + [v], gone + length))
+            elif v == 0 and len(trip) == n:
+                found.append(trip)
     return found
 
 

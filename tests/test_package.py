@@ -62,6 +62,8 @@ class TestPackage(unittest.TestCase):
             roundtripsdesk.puzzles.turn(9, [])
             roundtripsdesk.puzzles.there(2, [2, 0, 2, 0, 1], [0, 1])
             roundtripsdesk.puzzles.there(9, [], [])
+            roundtripsdesk.puzzles.home(2, [2, 0, 2, 0, 1], [0, 1])
+            roundtripsdesk.puzzles.home(9, [], [])
         self.assertEqual(told.getvalue(), "")
 
 

@@ -255,8 +255,9 @@ class TestRefusals(There):
             self.refused(-71, t, [2, 0], [0, 1])
 
     def test_a_solution_of_the_turned_puzzle(self):
-        for t, p, s in ((0, row_of(2, 1, [[0, 1]]), [0, 1, 3, 4, 2]), (1, row_of(2, 0, one_way_ring(2)), list(range(6))),
-                        (4, row_of(2, 0, one_way_ring(2)), [1, 0, 0, 1])):
+        both_ways = row_of(2, 0, [[0, 1], [1, 0]])
+        for t, p, s in ((0, row_of(2, 1, [[0, 1]]), [0, 1, 3, 4, 2]), (1, both_ways, [0, 1, 2, 3, 4, 5]),
+                        (4, both_ways, [1, 0, 0, 1])):
             self.assertTrue(told_right(KIND_TO[t], *puzzle_of(turn(t, p)[1:]), s))
             self.refused(-71, t, p, s)
 
