@@ -1,5 +1,6 @@
 """What the tests share: rows laid out, puzzles drawn up, those that are refused, and right told a second time."""
 
+import unittest
 from itertools import islice, product
 
 GREATEST = 18446744073709551615
@@ -18,6 +19,63 @@ class Kept(list):
 
     append = extend = insert = pop = remove = clear = sort = reverse = refuse
     __setitem__ = __delitem__ = __iadd__ = __imul__ = refuse
+
+
+class Way(unittest.TestCase):
+    """What the tests of there and home share: call is the one or the other, told tells it by the document's words."""
+
+    call = told = None
+
+    def answer(self, wanted, t, p, s):
+        given = self.call(t, p, s)
+        self.assertIs(type(given), list)
+        self.assertEqual(given, wanted, (t, p, s))
+        self.assertEqual({type(number) for number in given}, {int})
+
+    def answer_told(self, t, p, s):
+        wanted = self.told(t, *puzzle_of(p), s)
+        self.answer([len(wanted)] + wanted, t, p, s)
+
+    def refused(self, number, t, p, s):
+        self.answer([number], t, p, s)
+
+    def refuses_puzzles(self):
+        """The refusals of points 1 and 2 come first, whatever s is."""
+        for number, t, p in refused_turns():
+            for s in ([], [0], [0, 1], [0, 1, 2], [GREATEST_SMALL] * 2000):
+                self.refused(number, t, p, s)
+
+    def refuses_lengths(self, t, p, s):
+        """Right is s, but none that's longer or shorter."""
+        self.answer_told(t, p, s)
+        for other in (s + [0], s + [len(s)], [0] + s, s + s, s + [0] * (2000 - len(s)), s[:-1], s[1:], s[:1], []):
+            self.refused(-71, t, p, other)
+
+    def refuses_numbers(self, t, p, s, least):
+        """Right is s, but not with a number of the least that it can't have, or of the greatest."""
+        self.answer_told(t, p, s)
+        for i in range(len(s)):
+            for number in (least, GREATEST_SMALL - 1, GREATEST_SMALL):
+                self.refused(-71, t, p, s[:i] + [number] + s[i + 1:])
+
+    def refuses_where_none_should_be(self):
+        for t in range(5):
+            for s in ([0], [1], [GREATEST_SMALL], [0] * 2000):
+                self.refused(-71, t, [0, 0], s)
+
+    def handed_in(self, right_ones):
+        """Each t, p and s of the right ones, also with too short an s, and some where nothing is right."""
+        handed = [(t, p, other) for t, p, s in right_ones for other in (s, s[:-1])]
+        puzzles = ([], [0, 0], [1, 0], [3, 2], [2000, 0], [2, 0, 2, 0, 1])
+        return handed + [(t, list(p), list(s)) for t in range(6) for p in puzzles for s in ([], [0, 1])]
+
+    def changes_nothing(self, t, p, s):
+        puzzle, solution = list(p), list(s)
+        answered = self.call(t, p, s)
+        self.answer(answered, t, Kept(puzzle), Kept(solution))
+        answered.append(0)
+        self.assertEqual((p, s), (puzzle, solution))
+        self.answer(answered[:-1], t, p, s)
 
 
 def row_of(n, k, rows):

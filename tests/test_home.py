@@ -4,9 +4,9 @@ import random
 import unittest
 
 from roundtripsdesk.puzzles import home, right, there, turn
-from tests.helper import (GREATEST, GREATEST_SMALL, KIND_FROM, KIND_TO, Kept, all_puzzles, drawn_puzzle,
-                          edges_of_work, one_way_ring, one_way_roads, pairs, puzzle_of, refused_turns, ring, row_of,
-                          searched, told_points, told_right, told_solutions)
+from tests.helper import (GREATEST, GREATEST_SMALL, KIND_FROM, KIND_TO, Way, all_puzzles, drawn_puzzle, edges_of_work,
+                          one_way_ring, one_way_roads, pairs, puzzle_of, ring, row_of, searched, told_points,
+                          told_right, told_solutions)
 
 
 def told_home(t, n, k, rows, s):
@@ -34,12 +34,8 @@ def told_chosen(n, k, rows, s):
     return [1 if v in chosen else 0 for v in range(n)]
 
 
-class Home(unittest.TestCase):
-    def answer(self, wanted, t, p, s):
-        given = home(t, p, s)
-        self.assertIs(type(given), list)
-        self.assertEqual(given, wanted, (t, p, s))
-        self.assertEqual({type(number) for number in given}, {int})
+class Home(Way):
+    call, told = staticmethod(home), staticmethod(told_home)
 
     def comes(self, wanted, t, n, k, rows, s):
         """The solution written here, the one told by the words, and the answer are one, and it's right."""
@@ -60,9 +56,6 @@ class Home(unittest.TestCase):
             if t != 0 or all(s[v] == 0 or v in paired for v in range(n)):
                 self.answer([n] + s, t, p, there(t, p, s)[1:])
         return len(found)
-
-    def refused(self, number, t, p, s):
-        self.answer([number], t, p, s)
 
 
 class TestTurn0(Home):
@@ -263,28 +256,20 @@ class TestRefusals(Home):
              (4, row_of(3, 0, one_way_ring(3)), [1, 0, 0, 0, 1, 0, 0, 0, 1]))
 
     def test_22_and_28(self):
-        for number, t, p in refused_turns():
-            for s in ([], [0], [0, 1], [0, 1, 2], [GREATEST_SMALL] * 2000):
-                self.refused(number, t, p, s)
+        self.refuses_puzzles()
 
     def test_too_long_or_too_short(self):
         for t, p, s in self.RIGHT:
-            self.assertEqual(home(t, p, s)[1:], told_home(t, *puzzle_of(p), s))
-            for other in (s + [0], s + [len(s)], [0] + s, s + s, s + [0] * (2000 - len(s)), s[:-1], s[1:], s[:1], []):
-                self.refused(-71, t, p, other)
+            self.refuses_lengths(t, p, s)
 
     def test_no_number_where_there_should_be_none(self):
-        for t in range(5):
-            for s in ([0], [1], [GREATEST_SMALL], [0] * 2000):
-                self.refused(-71, t, [0, 0], s)
+        self.refuses_where_none_should_be()
         for s in ([0], [1, 0], [1, 1, 0]):
             self.refused(-71, 0, [3, 2], s)
 
     def test_numbers_that_a_solution_cannot_have(self):
         for t, p, s in self.RIGHT:
-            for i in range(len(s)):
-                for number in (2 if t == 4 else len(s), GREATEST_SMALL - 1, GREATEST_SMALL):
-                    self.refused(-71, t, p, s[:i] + [number] + s[i + 1:])
+            self.refuses_numbers(t, p, s, 2 if t == 4 else len(s))
 
     def test_of_the_right_length_but_not_right(self):
         for t, p, s in self.RIGHT:
@@ -318,23 +303,13 @@ class TestRefusals(Home):
 
 class TestHandedIn(Home):
     def test_nothing_is_changed(self):
-        handed = [(t, p, s) for t, p, s in TestRefusals.RIGHT]
-        handed += [(t, p, s) for t in range(6) for p in ([], [0, 0], [1, 0], [3, 2], [2000, 0], [2, 0, 2, 0, 1])
-                   for s in ([], [0], [0, 1], [0, 1, 1])]
-        for t, puzzle, solution in handed:
-            p, s = list(puzzle), list(solution)
-            answered = home(t, p, s)
-            self.assertEqual((p, s), (puzzle, solution))
-            self.answer(answered, t, Kept(puzzle), Kept(solution))
-            answered.append(0)
-            self.assertEqual((p, s), (puzzle, solution))
+        for t, p, s in self.handed_in(TestRefusals.RIGHT):
+            self.changes_nothing(t, p, s)
 
     def test_each_time_is_the_first(self):
         for again in range(3):
             for t, p, s in TestRefusals.RIGHT:
-                wanted = told_home(t, *puzzle_of(p), s)
-                self.answer([len(wanted)] + wanted, t, p, s)
-                home(t, p, s).append(again)
+                self.answer_told(t, p, s)
                 self.refused(-71, t, p, [])
 
 

@@ -4,9 +4,8 @@ import random
 import unittest
 
 from roundtripsdesk.puzzles import right, there, turn
-from tests.helper import (GREATEST, GREATEST_SMALL, KIND_FROM, KIND_TO, Kept, all_puzzles, drawn_puzzle,
-                          edges_of_work, one_way_ring, one_way_roads, pairs, puzzle_of, refused_turns, ring, row_of,
-                          told_points, told_right, told_solutions)
+from tests.helper import (GREATEST, KIND_FROM, KIND_TO, Way, all_puzzles, drawn_puzzle, edges_of_work, one_way_ring,
+                          one_way_roads, pairs, puzzle_of, ring, row_of, told_points, told_right, told_solutions)
 
 
 def told_there(t, n, k, rows, s):
@@ -36,12 +35,8 @@ def told_walk(n, k, rows, s):
     return [points.index(point) for point in walk]
 
 
-class There(unittest.TestCase):
-    def answer(self, wanted, t, p, s):
-        given = there(t, p, s)
-        self.assertIs(type(given), list)
-        self.assertEqual(given, wanted, (t, p, s))
-        self.assertEqual({type(number) for number in given}, {int})
+class There(Way):
+    call, told = staticmethod(there), staticmethod(told_there)
 
     def goes(self, wanted, t, n, k, rows, s):
         """The solution written here, the one told by the words, and the answer are one, and it's right."""
@@ -59,9 +54,6 @@ class There(unittest.TestCase):
         for s in solutions:
             self.goes(told_there(t, n, k, rows, s), t, n, k, rows, s)
         return len(solutions)
-
-    def refused(self, number, t, p, s):
-        self.answer([number], t, p, s)
 
 
 class TestTurn0(There):
@@ -218,26 +210,18 @@ class TestRefusals(There):
              (4, row_of(3, 0, one_way_ring(3)), [0, 1, 2]))
 
     def test_22_and_28(self):
-        for number, t, p in refused_turns():
-            for s in ([], [0], [0, 1], [0, 1, 2], [GREATEST_SMALL] * 2000):
-                self.refused(number, t, p, s)
+        self.refuses_puzzles()
 
     def test_too_long_or_too_short(self):
         for t, p, s in self.RIGHT:
-            self.assertEqual(there(t, p, s)[1:], told_there(t, *puzzle_of(p), s))
-            for other in (s + [0], s + [len(s)], [0] + s, s + s, s + [0] * (2000 - len(s)), s[:-1], s[1:], s[:1], []):
-                self.refused(-71, t, p, other)
+            self.refuses_lengths(t, p, s)
 
     def test_no_number_where_there_should_be_none(self):
-        for t in range(5):
-            for s in ([0], [1], [GREATEST_SMALL], [0] * 2000):
-                self.refused(-71, t, [0, 0], s)
+        self.refuses_where_none_should_be()
 
     def test_numbers_that_a_solution_cannot_have(self):
         for t, p, s in self.RIGHT:
-            for i in range(len(s)):
-                for number in (2 if t == 0 else len(s), GREATEST_SMALL - 1, GREATEST_SMALL):
-                    self.refused(-71, t, p, s[:i] + [number] + s[i + 1:])
+            self.refuses_numbers(t, p, s, 2 if t == 0 else len(s))
         # 2 and 0 are as many as 1 and 1
         self.refused(-71, 0, row_of(3, 2, [[0, 1], [1, 2]]), [0, 2, 0])
 
@@ -271,23 +255,13 @@ class TestRefusals(There):
 
 class TestHandedIn(There):
     def test_nothing_is_changed(self):
-        handed = [(t, p, s) for t, p, s in TestRefusals.RIGHT]
-        handed += [(t, p, s) for t in range(6) for p in ([], [0, 0], [1, 0], [3, 2], [2000, 0], [2, 0, 2, 0, 1])
-                   for s in ([], [0], [0, 1], [0, 1, 1])]
-        for t, puzzle, solution in handed:
-            p, s = list(puzzle), list(solution)
-            answered = there(t, p, s)
-            self.assertEqual((p, s), (puzzle, solution))
-            self.answer(answered, t, Kept(puzzle), Kept(solution))
-            answered.append(0)
-            self.assertEqual((p, s), (puzzle, solution))
+        for t, p, s in self.handed_in(TestRefusals.RIGHT):
+            self.changes_nothing(t, p, s)
 
     def test_each_time_is_the_first(self):
         for again in range(3):
             for t, p, s in TestRefusals.RIGHT:
-                wanted = told_there(t, *puzzle_of(p), s)
-                self.answer([len(wanted)] + wanted, t, p, s)
-                there(t, p, s).append(again)
+                self.answer_told(t, p, s)
                 self.refused(-71, t, p, [])
 
 
